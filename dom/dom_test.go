@@ -7,6 +7,7 @@ import (
 
 	"turntable/api"
 	"turntable/graph"
+	"turntable/made"
 )
 
 // same tells whether two lists of lists hold the same; a list that is nil and one without elements are the same.
@@ -56,7 +57,7 @@ var flows = []struct {
 // Promises 9.2, 9.3 and 9.4: flows whose answers are written down by hand.
 func TestByHand(t *testing.T) {
 	for _, x := range flows {
-		f := flow(x.to...)
+		f := made.Flow(x.to...)
 		if e := graph.Shaped(f); e != (api.Err{}) {
 			t.Fatalf("%s: %v", x.name, e)
 		}
@@ -98,7 +99,7 @@ func TestAheadByHand(t *testing.T) {
 		{[][]int{{3}, {1, 3}, {2}, {3, 0, 4}, {4}}, [][]int{{0}, {}, {}, {0, 3}, {0, 3, 4}}},
 	}
 	for _, x := range list {
-		d := Of(flow(x.to...))
+		d := Of(made.Flow(x.to...))
 		for b, want := range x.ahead {
 			for a := range x.ahead {
 				if got := d.Ahead(a, b); got != slices.Contains(want, a) {
@@ -109,16 +110,11 @@ func TestAheadByHand(t *testing.T) {
 	}
 }
 
-// strangers is numbers that are no blocks of a function of so many.
-func strangers(blocks int) []int {
-	return []int{-1, -2, -blocks, math.MinInt, math.MinInt32, blocks, blocks + 1, 2 * blocks, api.MaxBlocks + blocks, 1 << 32, 1<<32 + 1, math.MaxInt}
-}
-
 // Promises 9.2 and 9.3: numbers that are no blocks, also where these would stand ahead of all, or be what Up is where there is none.
 func TestNoBlocks(t *testing.T) {
 	for _, x := range flows {
-		d := Of(flow(x.to...))
-		for _, k := range strangers(len(x.to)) {
+		d := Of(made.Flow(x.to...))
+		for _, k := range made.Strangers(len(x.to)) {
 			if d.Up(k) != -1 || len(d.Kids(k)) != 0 || d.Depth(k) != 0 || d.Ahead(k, k) {
 				t.Errorf("%s: of %d, which is none: Up %d, Kids %v, Depth %d, Ahead of itself %v", x.name, k, d.Up(k), d.Kids(k), d.Depth(k), d.Ahead(k, k))
 			}
@@ -134,7 +130,7 @@ func TestNoBlocks(t *testing.T) {
 // Promises 9.1 to 9.3: blocks that are not reached stand ahead of none, not of themselves, and none stands ahead of them.
 func TestNotReached(t *testing.T) {
 	// 1 goes to itself, 3 to all, 5 to what is reached; 2 and 4 are reached.
-	f := flow([]int{2}, []int{1}, []int{4}, []int{0, 1, 2, 3, 4, 5}, []int{2}, []int{4, 0})
+	f := made.Flow([]int{2}, []int{1}, []int{4}, []int{0, 1, 2, 3, 4, 5}, []int{2}, []int{4, 0})
 	d := Of(f)
 	for _, k := range []int{1, 3, 5} {
 		if d.Up(k) != -1 || len(d.Kids(k)) != 0 || d.Depth(k) != 0 {
@@ -151,15 +147,6 @@ func TestNotReached(t *testing.T) {
 	}
 }
 
-// long is a function of as many blocks as are wanted, each of which goes where a rule says.
-func long(blocks int, rule func(k int) []int) api.Func {
-	to := make([][]int, blocks)
-	for k := range to {
-		to[k] = rule(k)
-	}
-	return flow(to...)
-}
-
 // Promises 9.2 to 9.4: the greatest number of blocks, and more: lines whose numbers rise, the last block of which goes to itself, and lines whose numbers fall, the last one of which goes back to the first.
 func TestLongLines(t *testing.T) {
 	for _, blocks := range []int{2, api.MaxBlocks - 1, api.MaxBlocks, api.MaxBlocks + 1, 5000} {
@@ -169,8 +156,8 @@ func TestLongLines(t *testing.T) {
 		for k := range last {
 			rising, falling = append(rising, k+1), append(falling, last-k)
 		}
-		mustLine(t, Of(long(blocks, func(k int) []int { return []int{min(k+1, last)} })), rising)
-		mustLine(t, Of(long(blocks, func(k int) []int { return []int{(k + last) % blocks} })), falling)
+		mustLine(t, Of(made.Long(blocks, func(k int) []int { return []int{min(k+1, last)} })), rising)
+		mustLine(t, Of(made.Long(blocks, func(k int) []int { return []int{(k + last) % blocks} })), falling)
 	}
 }
 
@@ -205,14 +192,14 @@ func TestWide(t *testing.T) {
 		}
 		turned := slices.Clone(others)
 		slices.Reverse(turned)
-		d := Of(long(blocks, func(k int) []int { return [][]int{turned, {blocks - 1}}[min(k, 1)] }))
+		d := Of(made.Long(blocks, func(k int) []int { return [][]int{turned, {blocks - 1}}[min(k, 1)] }))
 		if got := d.Kids(0); !slices.Equal(got, others) {
 			t.Errorf("of %d blocks below the first one: Kids(0) is %v", blocks, got)
 		}
 		if got := d.Down(); !slices.Equal(got, everyone) {
 			t.Errorf("of %d blocks below the first one: Down is %v", blocks, got)
 		}
-		d = Of(long(blocks, func(k int) []int { return [][]int{nil, {0, k}}[min(k, 1)] }))
+		d = Of(made.Long(blocks, func(k int) []int { return [][]int{nil, {0, k}}[min(k, 1)] }))
 		if got := d.Down(); !slices.Equal(got, []int{0}) || len(d.Kids(0)) != 0 || d.Ahead(0, blocks) || d.Depth(blocks-1) != 0 {
 			t.Errorf("of %d blocks that nobody goes to: Down is %v, Kids(0) %v", blocks, got, d.Kids(0))
 		}
@@ -225,7 +212,7 @@ func TestNoFunctions(t *testing.T) {
 		{},
 		{Blocks: [][]api.Instr{nil}},
 		{Blocks: [][]api.Instr{nil, nil, {{Op: api.OBr, To: []int{0}}}}},
-		flow([]int{7, -1, 1}, []int{math.MinInt, math.MaxInt, 0}),
+		made.Flow([]int{7, -1, 1}, []int{math.MinInt, math.MaxInt, 0}),
 		{Blocks: [][]api.Instr{{{Op: api.OBr, To: []int{1}}, {Op: api.OConst}}, {{Op: api.OIf, To: []int{2, 2}}}}},
 	}
 	trees := []*Tree{nil, {}, new(Tree)}

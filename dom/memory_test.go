@@ -6,6 +6,7 @@ import (
 	"testing"
 
 	"turntable/api"
+	"turntable/made"
 )
 
 // answers is all that a tree answers of so many blocks, and of some numbers beside them.
@@ -45,48 +46,15 @@ func mustAnswer(t *testing.T, when string, d *Tree, blocks int, want answers) {
 	}
 }
 
-// behind is a list with other elements behind its length in its memory.
-func behind[T any](l []T, more ...T) []T {
-	return append(slices.Clone(l), more...)[:len(l)]
-}
-
-// loaded is a function of its own memory whose lists have others behind their lengths: blocks, instructions, labels.
-func loaded(f api.Func) api.Func {
-	extra := api.Instr{Op: api.OIf, To: []int{0, 1}}
-	blocks := slices.Clone(f.Blocks)
-	for i, block := range blocks {
-		block = slices.Clone(block)
-		for j, x := range block {
-			block[j].To = behind(x.To, 0, 1, 2, 0)
-		}
-		blocks[i] = behind(block, extra, api.Instr{Op: api.OConst})
-	}
-	f.Blocks = behind(blocks, []api.Instr{extra}, nil)
-	return f
-}
-
-// deep is a function with nothing shared with another one, and with what lies behind its lists.
-func deep(f api.Func) api.Func {
-	f.Blocks = slices.Clone(f.Blocks[:cap(f.Blocks)])
-	for i, block := range f.Blocks {
-		block = slices.Clone(block[:cap(block)])
-		for j, x := range block {
-			block[j].To = slices.Clone(x.To[:cap(x.To)])
-		}
-		f.Blocks[i] = block
-	}
-	return f
-}
-
 // R3: what lies behind a list's length is neither read nor written, nothing that is handed in is changed, and who writes into what was answered changes no later answer.
 func TestOwnMemory(t *testing.T) {
-	m := newMaker(6)
+	m := made.New(6)
 	for range 500 {
-		f := m.function(m.edges(3 + m.Intn(5)))
+		f := m.Function(m.Edges(3 + m.Intn(5)))
 		blocks := len(f.Blocks)
 		want := ask(Of(f), blocks)
-		full := loaded(f)
-		before := deep(full)
+		full := made.Loaded(f)
+		before := made.Whole(full)
 		d := Of(full)
 		for range 3 {
 			got := ask(d, blocks)
@@ -96,7 +64,7 @@ func TestOwnMemory(t *testing.T) {
 			got.spoil()
 		}
 		mustAnswer(t, "another tree of the same function", Of(full), blocks, want)
-		if !reflect.DeepEqual(deep(full), before) {
+		if !reflect.DeepEqual(made.Whole(full), before) {
 			t.Fatalf("what was handed in was changed: %v", full.Blocks)
 		}
 	}
@@ -104,12 +72,12 @@ func TestOwnMemory(t *testing.T) {
 
 // R3: a caller who writes into what it gave changes nothing that is answered, whether it was asked for already or not.
 func TestNotKept(t *testing.T) {
-	m := newMaker(7)
+	m := made.New(7)
 	for range 300 {
-		f := m.function(m.edges(3 + m.Intn(5)))
+		f := m.Function(m.Edges(3 + m.Intn(5)))
 		blocks := len(f.Blocks)
 		want := ask(Of(f), blocks)
-		g := loaded(f)
+		g := made.Loaded(f)
 		asked, fresh := Of(g), Of(g)
 		first := ask(asked, blocks)
 		for i, block := range g.Blocks {
@@ -131,7 +99,7 @@ func TestNotKept(t *testing.T) {
 
 // R3: no two lists that were answered share memory: who makes one longer does not write into another one.
 func TestListsApart(t *testing.T) {
-	d := Of(flow([]int{1, 2, 3}, []int{4, 5}, []int{6, 7}, []int{8}, nil, nil, nil, nil, nil))
+	d := Of(made.Flow([]int{1, 2, 3}, []int{4, 5}, []int{6, 7}, []int{8}, nil, nil, nil, nil, nil))
 	want := ask(d, 9)
 	got := ask(d, 9)
 	for i := range got.kids {
@@ -146,12 +114,12 @@ func TestListsApart(t *testing.T) {
 
 // P6: trees do not know of each other: what was made or asked between changes nothing.
 func TestTreesApart(t *testing.T) {
-	m := newMaker(8)
+	m := made.New(8)
 	var fs []api.Func
 	var trees []*Tree
 	var want []answers
 	for range 50 {
-		f := m.function(m.edges(2 + m.Intn(8)))
+		f := m.Function(m.Edges(2 + m.Intn(8)))
 		fs, trees = append(fs, f), append(trees, Of(f))
 		want = append(want, ask(trees[len(trees)-1], len(f.Blocks)))
 	}
@@ -163,15 +131,14 @@ func TestTreesApart(t *testing.T) {
 
 // P6: what is answered hangs on where the blocks go alone: not on what else a function has, which of two labels is first, or whether one stands there twice.
 func TestEdgesAlone(t *testing.T) {
-	m := newMaker(10)
+	m := made.New(10)
 	for range 500 {
-		f := m.function(m.edges(2 + m.Intn(6)))
+		f := m.Function(m.Edges(2 + m.Intn(6)))
 		want := ask(Of(f), len(f.Blocks))
 		g := api.Func{Name: "other", Params: []int{2, 1}, Ret: api.TPtr, At: 99}
 		for k := range f.Blocks {
-			list := append(slices.Clone(to(f, k)), to(f, k)...)
-			m.Shuffle(len(list), func(i, j int) { list[i], list[j] = list[j], list[i] })
-			op := []int{api.OBr, api.OIf, api.ORet, api.OFail}[m.Intn(4)]
+			list := m.Shuffled(append(slices.Clone(made.To(f, k)), made.To(f, k)...))
+			op := m.One([]int{api.OBr, api.OIf, api.ORet, api.OFail})
 			g.Blocks = append(g.Blocks, []api.Instr{{Op: api.OPhi, To: []int{0, 1}}, {Op: op, Id: 3, N: 7, Type: 2, Args: []int{1}, Name: "x", At: 5, To: list}})
 		}
 		mustAnswer(t, "of the same edges", Of(g), len(f.Blocks), want)

@@ -5,38 +5,16 @@ import (
 	"testing"
 
 	"turntable/api"
+	"turntable/made"
 )
-
-// to is the labels of a block's last instruction.
-func to(f api.Func, k int) []int {
-	block := f.Blocks[k]
-	return block[len(block)-1].To
-}
-
-// search is what is come to from block 0 on without ever standing on one block.
-func search(f api.Func, without int) []bool {
-	met := make([]bool, len(f.Blocks))
-	var visit func(k int)
-	visit = func(k int) {
-		if k == without || met[k] {
-			return
-		}
-		met[k] = true
-		for _, next := range to(f, k) {
-			visit(next)
-		}
-	}
-	visit(0)
-	return met
-}
 
 // plain is who stands ahead of whom, by leaving out one block after the other; first the one that is ahead.
 func plain(f api.Func) [][]bool {
-	reached := search(f, -1)
+	reached := made.Search(f, 0, -1)
 	ahead := make([][]bool, len(f.Blocks))
 	for a := range ahead {
 		ahead[a] = make([]bool, len(f.Blocks))
-		without := search(f, a)
+		without := made.Search(f, 0, a)
 		for b := range f.Blocks {
 			ahead[a][b] = reached[a] && reached[b] && !without[b]
 		}
@@ -114,11 +92,11 @@ func TestMade(t *testing.T) {
 // Promises 9.1 to 9.4: as many blocks as there may be, by chance, and by rules: rounds of many ways in, rounds within rounds, ways that meet, trees.
 func TestMadeGreat(t *testing.T) {
 	const blocks = api.MaxBlocks
-	m := newMaker(3)
+	m := made.New(3)
 	for range 3 {
-		hold(t, m.function(m.edges(blocks)))
-		hold(t, m.function(m.near(blocks)))
-		hold(t, m.function(m.mixed(m.near(blocks))))
+		hold(t, m.Function(m.Edges(blocks)))
+		hold(t, m.Function(m.Near(blocks)))
+		hold(t, m.Function(m.Mixed(m.Near(blocks))))
 	}
 	last := blocks - 1
 	rules := []func(k int) []int{
@@ -134,19 +112,10 @@ func TestMadeGreat(t *testing.T) {
 		func(k int) []int { return []int{min(k+1, last), k - k%7, k - k%49} },
 	}
 	for _, rule := range rules {
-		f := long(blocks, rule)
+		f := made.Long(blocks, rule)
 		hold(t, f)
-		hold(t, m.function(m.mixed(edgesOf(f))))
+		hold(t, m.Function(m.Mixed(made.Edges(f))))
 	}
-}
-
-// edgesOf is what each block of a function goes to.
-func edgesOf(f api.Func) [][]int {
-	var edges [][]int
-	for k := range f.Blocks {
-		edges = append(edges, to(f, k))
-	}
-	return edges
 }
 
 // Promise 9.2: of two unlike blocks not each stands ahead of the other, and who stands ahead of one that stands ahead of a third stands ahead of that.
@@ -209,7 +178,7 @@ func TestUpAndDepth(t *testing.T) {
 func TestDownInOnePiece(t *testing.T) {
 	eachFlow(t, func(f api.Func) {
 		d := Of(f)
-		down, reached := d.Down(), search(f, -1)
+		down, reached := d.Down(), made.Search(f, 0, -1)
 		for k, is := range reached {
 			if at := slices.Index(down, k); is != (at >= 0) || at >= 0 && slices.Contains(down[at+1:], k) {
 				t.Fatalf("of %v: Down is %v", f.Blocks, down)
@@ -231,7 +200,7 @@ func TestDownInOnePiece(t *testing.T) {
 
 // Promise 9.5: ways by chance, also such as go round: at each block all have been met that stand ahead of it.
 func TestOnEveryWay(t *testing.T) {
-	m := newMaker(4)
+	m := made.New(4)
 	eachFlow(t, func(f api.Func) {
 		d := Of(f)
 		for range 3 {
@@ -244,7 +213,7 @@ func TestOnEveryWay(t *testing.T) {
 						t.Fatalf("of %v: %d stands ahead of %d, and there is a way without it", f.Blocks, a, at)
 					}
 				}
-				next := to(f, at)
+				next := made.To(f, at)
 				if len(next) == 0 {
 					break
 				}
@@ -257,7 +226,7 @@ func TestOnEveryWay(t *testing.T) {
 // eachWay hands over all ways from block 0 on that meet no block twice.
 func eachWay(f api.Func, way []int, do func(way []int)) {
 	do(way)
-	for _, next := range to(f, way[len(way)-1]) {
+	for _, next := range made.To(f, way[len(way)-1]) {
 		if !slices.Contains(way, next) {
 			eachWay(f, append(way[:len(way):len(way)], next), do)
 		}

@@ -6,6 +6,7 @@ import (
 	"testing"
 
 	"turntable/api"
+	"turntable/made"
 )
 
 // same tells whether two lists of lists hold the same; a list that is nil and one without elements are the same.
@@ -47,7 +48,7 @@ var flows = []struct {
 // Promises 8.2, 8.3 and 8.4: flows whose answers are written down by hand.
 func TestByHand(t *testing.T) {
 	for _, x := range flows {
-		f := flow(x.to...)
+		f := made.Flow(x.to...)
 		mustShape(t, f, api.Err{})
 		if got := Succs(f); !same(got, x.succs) {
 			t.Errorf("%s: Succs is %v, want %v", x.name, got, x.succs)
@@ -87,10 +88,7 @@ func TestSuccsOfLast(t *testing.T) {
 }
 
 // goes tells whether a block goes to another one.
-func goes(f api.Func, from, to int) bool {
-	block := f.Blocks[from]
-	return slices.Contains(block[len(block)-1].To, to)
-}
+func goes(f api.Func, from, to int) bool { return slices.Contains(made.To(f, from), to) }
 
 // Promise 8.2: each block that is gone to is told once, where it stands first; and the other way round.
 func TestSuccsAndPredsMade(t *testing.T) {
@@ -99,8 +97,8 @@ func TestSuccsAndPredsMade(t *testing.T) {
 		if len(succs) != len(f.Blocks) || len(preds) != len(f.Blocks) {
 			t.Fatalf("of %v: Succs %v, Preds %v", f.Blocks, succs, preds)
 		}
-		for a, block := range f.Blocks {
-			to := block[len(block)-1].To
+		for a := range f.Blocks {
+			to := made.To(f, a)
 			var want, ahead []int
 			for i, b := range to {
 				if slices.Index(to, b) == i {
@@ -126,8 +124,7 @@ func doneOrder(f api.Func) []int {
 	var walk func(b int)
 	walk = func(b int) {
 		met[b] = true
-		block := f.Blocks[b]
-		for _, to := range block[len(block)-1].To {
+		for _, to := range made.To(f, b) {
 			if !met[to] {
 				walk(to)
 			}
@@ -233,7 +230,7 @@ func TestMany(t *testing.T) {
 		for i := range to {
 			to[i], rising[i] = []int{(i + 1) % blocks}, i
 		}
-		f := flow(to...)
+		f := made.Flow(to...)
 		if got := Order(f); !slices.Equal(got, rising) {
 			t.Fatalf("Order of %d blocks in a round is not rising", blocks)
 		}
@@ -253,7 +250,7 @@ func TestMany(t *testing.T) {
 			everyWay[i] = append(everyWay[i], b%api.MaxBlocks)
 		}
 	}
-	f := flow(everyWay...)
+	f := made.Flow(everyWay...)
 	if got := len(Backs(f)); got != api.MaxBlocks*(api.MaxBlocks+1)/2 {
 		t.Errorf("%d edges go back", got)
 	}
@@ -267,9 +264,9 @@ func TestMany(t *testing.T) {
 // Promise 8.1 and all that follows: of functions that are not well shaped nothing is promised but that the calls end.
 func TestNotWellShaped(t *testing.T) {
 	m := newMaker(3)
-	list := []api.Func{{}, blocksOf(nil), blocksOf(nil, nil), flow([]int{-1}), flow([]int{1}), flow([]int{math.MinInt, math.MaxInt, 0})}
+	list := []api.Func{{}, blocksOf(nil), blocksOf(nil, nil), made.Flow([]int{-1}), made.Flow([]int{1}), made.Flow([]int{math.MinInt, math.MaxInt, 0})}
 	for range 3000 {
-		f := m.function(m.edges(1 + m.Intn(5)))
+		f := m.function(m.Edges(1 + m.Intn(5)))
 		m.spoil(f)
 		list = append(list, f)
 	}

@@ -6,38 +6,8 @@ import (
 	"testing"
 
 	"turntable/api"
+	"turntable/made"
 )
-
-// behind is a list with other elements behind its length in its memory.
-func behind[T any](l []T, more ...T) []T {
-	return append(slices.Clone(l), more...)[:len(l)]
-}
-
-// loaded is a function whose lists have others behind their lengths: blocks, instructions, labels.
-func loaded(f api.Func) api.Func {
-	extra := api.Instr{Op: api.OIf, To: []int{0, 1}}
-	for i, block := range f.Blocks {
-		for j, x := range block {
-			block[j].To = behind(x.To, 0, 1, 2, 0)
-		}
-		f.Blocks[i] = behind(block, extra, api.Instr{Op: api.OConst})
-	}
-	f.Blocks = behind(f.Blocks, []api.Instr{extra}, nil)
-	return f
-}
-
-// deep is a function with nothing shared with another one, and with what lies behind its lists.
-func deep(f api.Func) api.Func {
-	f.Blocks = slices.Clone(f.Blocks[:cap(f.Blocks)])
-	for i, block := range f.Blocks {
-		block = slices.Clone(block[:cap(block)])
-		for j, x := range block {
-			block[j].To = slices.Clone(x.To[:cap(x.To)])
-		}
-		f.Blocks[i] = block
-	}
-	return f
-}
 
 // answers is all that the calls answer of a function.
 type answers struct {
@@ -79,17 +49,17 @@ func (a answers) spoil() {
 func TestOwnMemory(t *testing.T) {
 	m := newMaker(6)
 	for range 500 {
-		f := m.function(m.edges(3 + m.Intn(5)))
-		edges := m.edges(len(f.Blocks))
-		from := m.labels(2, len(f.Blocks))
+		f := m.function(m.Edges(3 + m.Intn(5)))
+		edges := m.Edges(len(f.Blocks))
+		from := m.Labels(2, len(f.Blocks))
 		want := ask(f, edges, from)
-		full := loaded(f)
-		fullEdges := behind(edges, []int{0, 1})
+		full := made.Loaded(f)
+		fullEdges := made.Behind(edges, []int{0, 1})
 		for i := range fullEdges {
-			fullEdges[i] = behind(edges[i], 0, 1, 2)
+			fullEdges[i] = made.Behind(edges[i], 0, 1, 2)
 		}
-		fullFrom := behind(from, 0, 1, 2)
-		before := deep(full)
+		fullFrom := made.Behind(from, 0, 1, 2)
+		before := made.Whole(full)
 		for range 2 {
 			got := ask(full, fullEdges, fullFrom)
 			if !reflect.DeepEqual(got, want) {
@@ -97,7 +67,7 @@ func TestOwnMemory(t *testing.T) {
 			}
 			got.spoil()
 		}
-		if !reflect.DeepEqual(deep(full), before) {
+		if !reflect.DeepEqual(made.Whole(full), before) {
 			t.Fatalf("what was handed in was changed: %v", full.Blocks)
 		}
 		if !slices.Equal(fullFrom[:cap(fullFrom)][:5], append(slices.Clone(from), 0, 1, 2)) {
@@ -115,10 +85,10 @@ func TestOwnMemory(t *testing.T) {
 func TestNotKept(t *testing.T) {
 	m := newMaker(7)
 	for range 200 {
-		f := m.function(m.edges(3 + m.Intn(5)))
-		edges := m.edges(len(f.Blocks))
-		from := m.labels(2, len(f.Blocks))
-		g := deep(f)
+		f := m.function(m.Edges(3 + m.Intn(5)))
+		edges := m.Edges(len(f.Blocks))
+		from := m.Labels(2, len(f.Blocks))
+		g := made.Whole(f)
 		g.Blocks = g.Blocks[:len(f.Blocks)]
 		for i := range g.Blocks {
 			g.Blocks[i] = g.Blocks[i][:len(f.Blocks[i])]
@@ -150,7 +120,7 @@ func TestNotKept(t *testing.T) {
 
 // R3: no two lists of one answer share memory: who makes one longer does not write into another one.
 func TestListsApart(t *testing.T) {
-	f := flow([]int{1, 2, 3}, []int{1, 2, 3}, []int{3, 1, 2}, []int{2, 1, 3})
+	f := made.Flow([]int{1, 2, 3}, []int{1, 2, 3}, []int{3, 1, 2}, []int{2, 1, 3})
 	for _, lists := range [][][]int{Succs(f), Preds(f)} {
 		for i := range lists {
 			want := slices.Clone(lists)
@@ -179,7 +149,7 @@ func TestNilAndEmpty(t *testing.T) {
 func TestBlocksAlone(t *testing.T) {
 	m := newMaker(10)
 	for range 300 {
-		f := m.function(m.edges(2 + m.Intn(5)))
+		f := m.function(m.Edges(2 + m.Intn(5)))
 		want := ask(f, Preds(f), []int{0})
 		g := f
 		g.Name, g.Params, g.Ret, g.At = "other", []int{2, 1}, api.TPtr, 99
@@ -188,7 +158,7 @@ func TestBlocksAlone(t *testing.T) {
 			g.Blocks[i] = slices.Clone(block)
 			for j := range block {
 				x := &g.Blocks[i][j]
-				x.Id, x.N, x.Type, x.Args, x.Name, x.At = m.Intn(5), int64(m.Intn(7)), m.Intn(4), m.labels(2, 9), "x", m.Intn(9)
+				x.Id, x.N, x.Type, x.Args, x.Name, x.At = m.Intn(5), int64(m.Intn(7)), m.Intn(4), m.Labels(2, 9), "x", m.Intn(9)
 			}
 		}
 		if got := ask(g, Preds(g), []int{0}); !reflect.DeepEqual(got, want) {

@@ -91,8 +91,8 @@ func TestReachedMade(t *testing.T) {
 	m := newMaker(5)
 	for range 6000 {
 		blocks := 1 + m.Intn(6)
-		edges := m.edges(blocks)
-		from := m.labels(m.Intn(4), blocks)
+		edges := m.Edges(blocks)
+		from := m.Labels(m.Intn(4), blocks)
 		but := m.Intn(blocks+4) - 2
 		got := Reached(edges, from, but)
 		if len(got) != blocks {

@@ -134,13 +134,13 @@ func (m maker) spoil(f api.Func) {
 	case 0:
 		f.Blocks[at] = nil
 	case 1:
-		block[i].Op = m.one(enders)
+		block[i].Op = m.One(enders)
 	case 2:
-		block[i].Op = m.one(others)
+		block[i].Op = m.One(others)
 	case 3:
 		f.Blocks[at] = block[:i]
 	default:
-		block[i].To = append(m.labels(m.Intn(3), len(f.Blocks)), m.one([]int{-1, -2, 0, len(f.Blocks) - 1, len(f.Blocks), math.MinInt, math.MaxInt}))
+		block[i].To = append(m.Labels(m.Intn(3), len(f.Blocks)), m.One([]int{-1, -2, 0, len(f.Blocks) - 1, len(f.Blocks), math.MinInt, math.MaxInt}))
 	}
 }
 
@@ -176,7 +176,7 @@ func TestShapedMade(t *testing.T) {
 	m := newMaker(1)
 	seen := map[api.Code]int{}
 	for range 60000 {
-		f := m.function(m.edges(1 + m.Intn(5)))
+		f := m.function(m.Edges(1 + m.Intn(5)))
 		for range m.Intn(4) {
 			m.spoil(f)
 		}
