@@ -5,6 +5,7 @@ import (
 
 	"turntable/api"
 	"turntable/made"
+	"turntable/plain"
 	"turntable/well"
 )
 
@@ -18,7 +19,7 @@ func TestByChance(t *testing.T) {
 			t.Fatalf("seed %d: %v", seed, e)
 		}
 		fuel := m.One([]int{0, 1, 5, 20, 60, 300, 1000, 1000})
-		want := told(p, in, fuel)
+		want := plain.Told(p, in, fuel)
 		mustAgree(t, "Go", p, Go(p, in, fuel), want)
 		mustAgree(t, "step by step", p, stepped(p, in, fuel), want)
 		ended[want.Ended]++
@@ -43,7 +44,7 @@ func TestGreatByChance(t *testing.T) {
 		m := made.New(20000 + seed)
 		p := m.Tamed(m.Program(8, 60, seed%2 == 0))
 		for _, fuel := range []int{100, 5000} {
-			want := told(p, []int64{1, 2, 3}, fuel)
+			want := plain.Told(p, []int64{1, 2, 3}, fuel)
 			mustAgree(t, "Go", p, Go(p, []int64{1, 2, 3}, fuel), want)
 			mustAgree(t, "step by step", p, stepped(p, []int64{1, 2, 3}, fuel), want)
 		}
@@ -85,7 +86,7 @@ func TestNotPromised(t *testing.T) {
 			}
 		}
 		if well.Made(p).Code == api.OK {
-			mustAgree(t, "may be run, still", p, Go(p, []int64{1}, 100), told(p, []int64{1}, 100))
+			mustAgree(t, "may be run, still", p, Go(p, []int64{1}, 100), plain.Told(p, []int64{1}, 100))
 			continue
 		}
 		if got := Go(p, []int64{1}, 100); !same(got, api.Result{}) {

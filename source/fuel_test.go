@@ -7,6 +7,7 @@ import (
 
 	"turntable/api"
 	"turntable/made"
+	"turntable/plain"
 )
 
 // counts is a program that counts from 0 on for ever, gives each number out, and makes an object each time.
@@ -18,7 +19,7 @@ func mustGo(t *testing.T, text string, in []int64, fuel int, want api.Result) {
 	p := read(t, text)
 	mustAgree(t, "Go", p, Go(p, in, fuel), want)
 	mustAgree(t, "step by step", p, stepped(p, in, fuel), want)
-	mustAgree(t, "as it is told", p, told(p, in, fuel), want)
+	mustAgree(t, "as it is told", p, plain.Told(p, in, fuel), want)
 }
 
 // Promise 13.6: without fuel, and with fuel below 0, nothing is done.

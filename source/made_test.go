@@ -7,6 +7,7 @@ import (
 	"turntable/api"
 	"turntable/made"
 	"turntable/parse"
+	"turntable/plain"
 	"turntable/show"
 	"turntable/well"
 )
@@ -48,7 +49,7 @@ func must(t *testing.T, text string, in []int64, want api.Result) {
 	if got := stepped(p, in, enough); !same(got, want) {
 		t.Fatalf("%s, of %v, step by step: %+v, want %+v", text, in, got, want)
 	}
-	if got := told(p, in, enough); !same(got, want) {
+	if got := plain.Told(p, in, enough); !same(got, want) {
 		t.Fatalf("%s, of %v, as it is told: %+v, want %+v", text, in, got, want)
 	}
 }

@@ -8,6 +8,7 @@ import (
 
 	"turntable/api"
 	"turntable/made"
+	"turntable/plain"
 )
 
 // R3: what lies behind a list's length is neither read nor written, and nothing that is handed in is changed.
@@ -15,7 +16,7 @@ func TestOwnMemory(t *testing.T) {
 	m := made.New(40)
 	for range 1000 {
 		p, in := some(m), someNumbers(m)
-		want := told(p, in, 300)
+		want := plain.Told(p, in, 300)
 		full, numbers := made.LoadedProg(p), made.Behind(in, 66, 67, 68, 69)
 		before, given := made.WholeProg(full), slices.Clone(numbers[:cap(numbers)])
 		for range 2 {
@@ -42,7 +43,7 @@ func TestNotKept(t *testing.T) {
 	m := made.New(41)
 	for range 1000 {
 		p, in := some(m), someNumbers(m)
-		want := told(p, in, 300)
+		want := plain.Told(p, in, 300)
 		given, numbers := made.LoadedProg(p), made.Behind(in, 9)
 		r := New(given, numbers)
 		for range m.Intn(20) {
@@ -64,7 +65,7 @@ func TestAnswersApart(t *testing.T) {
 	p := read(t, counts)
 	r := New(p, nil)
 	for steps := 0; r.Result().Steps < 400; steps++ {
-		want := told(p, nil, r.Result().Steps)
+		want := plain.Told(p, nil, r.Result().Steps)
 		first, second := r.Result(), r.Result()
 		_ = append(first.Out, 99, 98, 97)
 		made.Fill(first.Out, 77)
@@ -75,8 +76,8 @@ func TestAnswersApart(t *testing.T) {
 	}
 	one, two := Go(p, nil, 100), Go(p, nil, 100)
 	made.Fill(one.Out, 77)
-	mustAgree(t, "by Go", p, two, told(p, nil, 100))
-	mustAgree(t, "by Go again", p, Go(p, nil, 100), told(p, nil, 100))
+	mustAgree(t, "by Go", p, two, plain.Told(p, nil, 100))
+	mustAgree(t, "by Go again", p, Go(p, nil, 100), plain.Told(p, nil, 100))
 }
 
 // R3: what was answered once stays as it is while the run goes on.
@@ -89,7 +90,7 @@ func TestAnswersStay(t *testing.T) {
 		r.Step()
 	}
 	for _, got := range answers {
-		mustAgree(t, "later", p, got, told(p, nil, got.Steps))
+		mustAgree(t, "later", p, got, plain.Told(p, nil, got.Steps))
 	}
 }
 
@@ -111,7 +112,7 @@ func TestRunsApart(t *testing.T) {
 			for r.Result().Ended == api.Goes && r.Result().Steps < 200 {
 				r.Step()
 			}
-			mustAgree(t, "among others", progs[k], r.Result(), told(progs[k], ins[k], 200))
+			mustAgree(t, "among others", progs[k], r.Result(), plain.Told(progs[k], ins[k], 200))
 		}
 	}
 }
@@ -126,7 +127,7 @@ func TestRunsSideBySide(t *testing.T) {
 	}
 	all.Wait()
 	for i := range got {
-		mustAgree(t, "side by side", p, got[i], told(p, []int64{int64(i)}, enough))
+		mustAgree(t, "side by side", p, got[i], plain.Told(p, []int64{int64(i)}, enough))
 	}
 }
 
