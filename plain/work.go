@@ -64,6 +64,7 @@ func (w *work) one(x api.Instr) Cell {
 	case api.OReloc:
 		return taken[0]
 	case api.OOut:
+		w.note(func(e *api.Effect) { e.Gives = true })
 		w.far.Out = append(w.far.Out, taken[0].N)
 		return Cell{}
 	case api.OCall:
@@ -88,6 +89,7 @@ func (w *work) object(letters string) Cell {
 	if letters == "." {
 		letters = ""
 	}
+	w.note(func(e *api.Effect) { e.Makes = true })
 	w.far.Words += len(letters) + 1
 	return Cell{To: &Thing{Letters: letters, Slots: make([]Cell, len(letters))}}
 }
@@ -137,7 +139,10 @@ func (w *work) ask(x api.Instr, taken []Cell) Cell {
 		w.trap(api.TrapSlot)
 	}
 	if len(taken) == 2 {
+		w.note(func(e *api.Effect) { e.Writes = true })
 		o.Slots[slot] = taken[1]
+		return Cell{}
 	}
+	w.note(func(e *api.Effect) { e.Reads = true })
 	return o.Slots[slot]
 }
